@@ -1,0 +1,1 @@
+"""Cheapread: the cheapest readings of a row, and how many there are."""
